@@ -1,6 +1,6 @@
-"""What any value is: integers, integers within bounds, lots of bits."""
+"""What any value is: integers, integers within bounds, lots of bits, phases."""
 
-from oneflip.errors import BadBits, BadNumber, BadWord
+from oneflip.errors import BadBits, BadNumber, BadPhases, BadWord
 
 MOST_BIT = 20000
 
@@ -35,6 +35,11 @@ def is_lot(value):
     return are_unlike(value, 0, MOST_BIT)
 
 
+def is_phases(value):
+    """Whether it is a list or tuple, perhaps of none, of lots of bits with one bit at least."""
+    return is_list(value) and all([is_lot(phase) and len(phase) > 0 for phase in value])
+
+
 def is_just(value, told):
     """Whether a value is just what is told: tuples of such, and integers, for which no truth stands."""
     if not is_list(told):
@@ -46,8 +51,7 @@ def is_just(value, told):
 
 def lot_of(bits):
     """The ascending tuple of a lot of bits."""
-    if not is_lot(bits):
-        raise BadBits("bits")
+    need_lot(bits, "bits")
     return tuple(sorted(bits))
 
 
@@ -61,3 +65,15 @@ def need_word(value, part):
     """Raises BadWord(part) for what is no integer from 0 on."""
     if not is_within(value, 0, None):
         raise BadWord(part)
+
+
+def need_lot(value, part):
+    """Raises BadBits(part) for what is no lot of bits."""
+    if not is_lot(value):
+        raise BadBits(part)
+
+
+def need_phases(value, part):
+    """Raises BadPhases(part) for what is no phases."""
+    if not is_phases(value):
+        raise BadPhases(part)

@@ -31,6 +31,32 @@ def need_fit(layout, machine):
     _need_states(layout, machine)
 
 
+def need_place(layout, machine, word):
+    """Raises for what is no layout, no machine, or no word of the layout."""
+    need_layout(layout, "layout")
+    need_machine(machine, "machine")
+    need_word_of(layout, word)
+
+
+def need_state(machine, state):
+    """Raises BadNumber("state") for what is no state of the machine."""
+    need_number(state, "state", 0, machine.states - 1)
+
+
+def kept_from(layout, machine, word):
+    """The kept words, among which the word must be."""
+    kept = kept_of(layout, machine)
+    if word not in kept:
+        raise Misfit("word")
+    return kept
+
+
+def need_change(layout, machine, word, state):
+    """Raises Misfit("state") if the machine has no change to a state from the one that a word means."""
+    if (layout.means[word], state) not in machine.changes:
+        raise Misfit("state")
+
+
 def _need_states(layout, machine):
     if [state for state in layout.means if state is not None and state >= machine.states]:
         raise Misfit("layout")
@@ -71,23 +97,16 @@ def next_ask(layout, machine, word):
 
 def road(layout, machine, word, state):
     """The bits whose flips lead from a kept word through its piece to a kept word of a state."""
-    need_layout(layout, "layout")
-    need_machine(machine, "machine")
-    need_word_of(layout, word)
-    need_number(state, "state", 0, machine.states - 1)
-    kept = kept_of(layout, machine)
-    if word not in kept:
-        raise Misfit("word")
-    if (layout.means[word], state) not in machine.changes:
-        raise Misfit("state")
+    need_place(layout, machine, word)
+    need_state(machine, state)
+    kept = kept_from(layout, machine, word)
+    need_change(layout, machine, word, state)
     return _fewest_flips(layout, word, [there for there in kept if layout.means[there] == state])
 
 
 def _strike_at(layout, machine, word):
     """The pair (rank, ask) of a word."""
-    need_layout(layout, "layout")
-    need_machine(machine, "machine")
-    need_word_of(layout, word)
+    need_place(layout, machine, word)
     _need_states(layout, machine)
     need_meaning(layout, word)
     for words, rank, ask in _strikes(layout, machine):

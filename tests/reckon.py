@@ -1,6 +1,6 @@
-"""Pieces, struck words, roads and denials of layouts, reckoned by other ways than the program's."""
+"""Pieces, struck words, roads, codes, stores and plans, reckoned by other ways than the program's."""
 
-from itertools import product
+from itertools import combinations, product
 
 LOST = 10 ** 6
 
@@ -92,3 +92,167 @@ def is_falls(layout, machine, strikes, lacks):
         return False
     return all(0 <= state < machine.states and not [word for word, meant in enumerate(layout.means)
                                                     if meant == state and word not in gone] for state in lacks)
+
+
+def bits_of(word, many):
+    """The bits of a word from bit 0 on, so many of them, as noughts and ones."""
+    return [int(sign) for sign in reversed(format(word, f"0{many}b"))]
+
+
+def number_of(bits):
+    """The number of some bits, the first one being the lowest."""
+    return int("".join(str(bit) for bit in reversed(bits)) or "0", 2)
+
+
+def code_counts(base, double, bits):
+    """The bit of a double that counts: the upper one if an even number of all bits below are 1."""
+    lower = base - 1 + 2 * double
+    return lower + 1 if bits[:lower].count(1) % 2 == 0 else lower
+
+
+def code_value(base, doubles, bits):
+    """What the bits of a word of a code mean, reckoned from below."""
+    value = bits[0] if base == 2 else {(0, 0): 0, (1, 0): 0, (0, 1): 1, (1, 1): 2}[tuple(bits[:2])]
+    many = base
+    for double in range(doubles):
+        value += many if bits[code_counts(base, double, bits)] else 0
+        many *= 2
+    return value
+
+
+def code_way(base, doubles, word, value):
+    """The told way, by flipping the bits of the row so far to see which bit counts behind them."""
+    start = bits_of(word, base - 1 + 2 * doubles)
+    row = _base_way(base, start, value % base)
+    for double in range(doubles):
+        wanted = value // base // 2 ** double % 2
+        counts = code_counts(base, double, start)
+        lower = base - 1 + 2 * double
+        idle = lower if counts == lower + 1 else lower + 1
+        if not row:
+            row = [] if start[counts] == wanted else [counts]
+            continue
+        longer = list(row)
+        if len(row) >= 2 and start[idle] != start[counts]:
+            longer.insert(0, idle)
+        end = list(start)
+        for bit in longer:
+            end[bit] = 1 - end[bit]
+        counts = code_counts(base, double, end)
+        if end[counts] != wanted:
+            longer.insert(len(longer) - 1, counts)
+        row = longer
+    return tuple(row)
+
+
+def _base_way(base, start, wanted):
+    """The first of all rows of flips, shorter ones first, that leads to a base value at its last flip alone."""
+    old = code_value(base, 0, start)
+    for many in range(4):
+        for row in product(range(base - 1), repeat=many):
+            bits, told = list(start), [old]
+            for bit in row:
+                bits[bit] = 1 - bits[bit]
+                told.append(code_value(base, 0, bits))
+            if told[-1] == wanted and all(meant == old for meant in told[:-1]) and (many == 0) == (old == wanted):
+                return list(row)
+    return None
+
+
+class Till:
+    """A store in the open: its cells, whether it is open, its rows, taken from the noughts and ones of a word."""
+
+    def __init__(self, cells, size, most, word):
+        place = 0
+        while 2 ** place < cells:
+            place += 1
+        self.many = cells * size + 1 + most * (place + size)
+        self.sizes = (cells, size, most, place)
+        bits = bits_of(word, self.many)
+
+        def taken(many):
+            front = bits[:many]
+            del bits[:many]
+            return number_of(front)
+
+        self.cells = [taken(size) for _ in range(cells)]
+        self.open = taken(1)
+        self.rows = [(taken(place), taken(size)) for _ in range(most)]
+
+    def word(self):
+        _, size, _, place = self.sizes
+        bits = []
+        for value in self.cells:
+            bits += bits_of(value, size)
+        bits.append(self.open)
+        for where, what in self.rows:
+            bits += bits_of(where, place)[:place] + bits_of(what, size)
+        return number_of(bits)
+
+    def means(self):
+        values = dict(enumerate(self.cells))
+        if self.open:
+            values.update({where: what for where, what in self.rows if where < len(self.cells)})
+        return tuple(values[cell] for cell in range(len(self.cells)))
+
+    def unlike(self, word):
+        """The bits in which this one is unlike a word, and which it takes over then."""
+        one, other = bits_of(self.word(), self.many), bits_of(word, self.many)
+        return tuple(bit for bit in range(self.many) if one[bit] != other[bit])
+
+
+def till_plan(cells, size, most, word, deed=None):
+    """The plan that mends a word, and then does a deed, if there is one, step by step."""
+    till = Till(cells, size, most, word)
+    phases = []
+
+    def done():
+        nonlocal word
+        phases.append(till.unlike(word))
+        word = till.word()
+
+    if till.open:
+        till.cells = list(till.means())
+        done()
+        till.open = 0
+        done()
+    if deed is not None:
+        rows = sorted(tuple(pair) for pair in deed)
+        while len(rows) < most:
+            rows.append(rows[-1])
+        till.rows = rows
+        done()
+        till.open = 1
+        done()
+        till.cells = list(till.means())
+        done()
+        till.open = 0
+        done()
+    return tuple(phase for phase in phases if phase)
+
+
+def lots(items):
+    """All lots of some items, shorter ones first, those of one length in their order."""
+    items = list(items)
+    return [lot for many in range(len(items) + 1) for lot in combinations(items, many)]
+
+
+def with_flips(word, bits):
+    """The word with bits flipped, one behind another, each as often as it stands there."""
+    for bit in bits:
+        word = word + 2 ** bit if word // 2 ** bit % 2 == 0 else word - 2 ** bit
+    return word
+
+
+def let_by_trying(layout, machine, word, state):
+    """The words that are let: those that are kept and mean what the word means, or the new state."""
+    return [here for here in kept_by_worth(layout, machine) if layout.means[here] in (layout.means[word], state)]
+
+
+def plans_by_trying(layout, let, word, state, phases):
+    """All plans of so many phases, by trying phase by phase."""
+    rows = [((), word)]
+    for _ in range(phases):
+        rows = [(row + (phase,), with_flips(here, phase)) for row, here in rows for phase in lots(range(layout.bits))
+                if phase and all(with_flips(here, lot) in let for lot in lots(phase))]
+    return [row for row, here in rows if layout.means[here] == state]

@@ -1,11 +1,8 @@
 import unittest
 
-from oneflip.checks import is_integer, is_just, is_lot, is_within, lot_of
+from oneflip.checks import is_integer, is_just, is_lot, is_phases, is_within, lot_of
 from oneflip.errors import BadBits
-from tests.tools import NO_INTEGERS, NO_LISTS, Case, Odd
-
-BAD_LOTS = ([1, 1], [0, 2, 0], (3, 3), [-1], [20001], [4, 20001], [True], [0, False], [None], ["1"], [1.0], [[1]],
-            [(1,)], [0, 1, None], [Odd()], [{}], [10 ** 400], [2, 3, 2.0])
+from tests.tools import BAD_LOTS, BAD_PHASES, NO_INTEGERS, Case, Odd
 
 
 class Checks(Case):
@@ -33,7 +30,7 @@ class Checks(Case):
         for value in ([], (), [0], (20000,), [20000, 0, 7], (5, 4), list(range(20001))):
             self.same(is_lot(value), True)
             self.same(is_lot(value=value), True)
-        for value in BAD_LOTS + NO_LISTS:
+        for value in BAD_LOTS:
             self.same(is_lot(value), False, value)
 
     def test_lot_of(self):
@@ -41,7 +38,7 @@ class Checks(Case):
         self.same(lot_of((7, 20000, 0)), (0, 7, 20000))
         self.same(lot_of(bits=[3, 1, 2]), (1, 2, 3))
         self.same(lot_of(list(range(20000, -1, -1))), tuple(range(20001)))
-        for value in BAD_LOTS + NO_LISTS:
+        for value in BAD_LOTS:
             self.fails(BadBits("bits"), lot_of, value)
 
     def test_what_is_passed_stays(self):
@@ -50,6 +47,12 @@ class Checks(Case):
         self.same(bits, [3, 1, 2])
         bits.append(9)
         self.same(told, (1, 2, 3))
+
+    def test_is_phases(self):
+        for value in ([], (), [[0]], ([20000, 0],), [(1,), [1]], [[3, 2], [2, 3], (5,)], [list(range(20001))]):
+            self.same(is_phases(value), True)
+        for value in BAD_PHASES:
+            self.same(is_phases(value), False, value)
 
     def test_is_just(self):
         told = ((0, (1, 2)), 1, ())

@@ -36,7 +36,7 @@ class Examples(Case):
                 told += 1
                 with self.subTest(file=file, code=code):
                     self._holds(code, wanted, names)
-        self.assertEqual(told, 50)
+        self.assertEqual(told, 101)
 
     def _holds(self, code, wanted, names):
         if wanted is None:

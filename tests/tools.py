@@ -4,10 +4,12 @@ import random
 import signal
 import unittest
 
+from oneflip.codes import Code
 from oneflip.errors import FlipError
 from oneflip.layouts import Layout
 from oneflip.machines import Machine
 from oneflip.papers import Paper
+from oneflip.stores import Store
 
 
 class Odd:
@@ -24,6 +26,14 @@ NO_INTEGERS = (None, True, False, "1", "", b"1", 1.0, 0.5, [1], (1,), {1: 1}, {1
 NO_LISTS = (None, True, 0, 7, "01", "", b"01", 1.5, {0: 1}, {0, 1}, Odd(), range(2), list, Paper("note"))
 NO_MACHINES = (None, True, 2, "2", [], (2, []), {}, Odd(), Machine, Paper("machine", 2, []), Layout(1, [0, 1]))
 NO_LAYOUTS = (None, True, 2, "1 0 1", [], (1, [0, 1]), {}, Odd(), Layout, Paper("layout", 1, []), Machine(2, []))
+NO_CODES = (None, True, 2, "2 1", [], (2, 1), {}, Odd(), Code, Paper("code", 2, 1), Store(2, 1, 1))
+NO_STORES = (None, True, 2, "2 1 1", [], (2, 1, 1), {}, Odd(), Store, Paper("store", 2, 1, 1), Code(2, 1))
+# Values that are no lot of bits, and such that are no phases.
+BAD_LOTS = NO_LISTS + (
+    [1, 1], [0, 2, 0], (3, 3), [-1], [20001], [4, 20001], [True], [0, False], [None], ["1"], [1.0], [[1]], [(1,)],
+    [0, 1, None], [Odd()], [{}], [10 ** 400], [2, 3, 2.0])
+BAD_PHASES = NO_LISTS + ([[]], [()], [[0], []], ([1], (), [2]), [0], [0, 1], (1,)) + tuple(
+    [[2], value] for value in BAD_LOTS) + tuple((value,) for value in BAD_LOTS)
 NO_STRINGS = (None, True, 0, 7, b"2", ["2"], ("2",), 1.5, Odd(), str, Paper("2"))
 
 
