@@ -4,6 +4,7 @@ from oneflip.checks import is_within, need_lot, need_number, need_phases
 from oneflip.errors import BadWord, Misfit, TooMany
 from oneflip.phases import MOST_FLIPS, flips_of_lot, unlike_words, words_by_lots
 from oneflip.texts import integer_at, items_of
+from oneflip.words import flipped_often
 
 MOST_BITS = 400
 
@@ -62,7 +63,7 @@ class Device:
 
     def look(self):
         """The word as which it reads."""
-        return _flipped_often(self.lies, self._flips)
+        return flipped_often(self.lies, self._flips)
 
     def may_lie(self):
         """All words that can lie there if the plug is pulled now, ascending."""
@@ -109,7 +110,7 @@ class Device:
 
     def _reach(self, flips):
         """These flips reach memory, and none waits any more; returns how many they are."""
-        self.lies = _flipped_often(self.lies, flips)
+        self.lies = flipped_often(self.lies, flips)
         self.reached += len(flips)
         self._flips = []
         return len(flips)
@@ -117,11 +118,3 @@ class Device:
 
 def _last_word(bits):
     return (1 << bits) - 1
-
-
-def _flipped_often(word, bits):
-    """The word with bits flipped, each as often as it stands there."""
-    here = word
-    for bit in bits:
-        here = here ^ (1 << bit)
-    return here

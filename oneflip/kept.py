@@ -101,7 +101,7 @@ def road(layout, machine, word, state):
     need_state(machine, state)
     kept = kept_from(layout, machine, word)
     need_change(layout, machine, word, state)
-    return _fewest_flips(layout, word, [there for there in kept if layout.means[there] == state])
+    return fewest_flips(layout, word, [there for there in kept if layout.means[there] == state])
 
 
 def _strike_at(layout, machine, word):
@@ -168,7 +168,7 @@ def _lacking(layout, machine, struck):
     return [state for state in range(machine.states) if state not in kept]
 
 
-def _fewest_flips(layout, word, goals):
+def fewest_flips(layout, word, goals):
     """The least of the fewest flips that lead from a word through its piece to one of the goals that it touches."""
     ways = {word: ()}
     row = [word]

@@ -4,6 +4,9 @@ from oneflip.checks import is_within
 from oneflip.errors import BadText
 
 MOST_DIGITS = 140
+# Python does not write integers of very many digits at once.
+PIECE_DIGITS = 64
+PIECE = 10 ** 64
 
 
 def items_of(text):
@@ -22,6 +25,17 @@ def integer_of(item):
     if digits.startswith("0") and item != "0":
         return None
     return int(item)
+
+
+def digits_of(number):
+    """How an integer from 0 on, of any size, is written."""
+    pieces = []
+    rest = number
+    while rest >= PIECE:
+        pieces.append(str(rest % PIECE).zfill(PIECE_DIGITS))
+        rest = rest // PIECE
+    pieces.append(str(rest))
+    return "".join(list(reversed(pieces)))
 
 
 def item_at(items, at):

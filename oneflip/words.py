@@ -10,8 +10,13 @@ MOST_MANY = 400
 def flipped(word, bits):
     """The word with each bit of a lot of bits flipped."""
     need_word(word, "word")
+    return flipped_often(word, lot_of(bits))
+
+
+def flipped_often(word, bits):
+    """The word with bits flipped, each as often as it stands there."""
     there = word
-    for bit in lot_of(bits):
+    for bit in bits:
         there = there ^ (1 << bit)
     return there
 

@@ -1,4 +1,4 @@
-"""Pieces, struck words, roads, codes, stores and plans, reckoned by other ways than the program's."""
+"""Pieces, struck words, roads, codes, stores, plans and lines, reckoned by other ways than the program's."""
 
 from itertools import combinations, product
 
@@ -256,3 +256,45 @@ def plans_by_trying(layout, let, word, state, phases):
         rows = [(row + (phase,), with_flips(here, phase)) for row, here in rows for phase in lots(range(layout.bits))
                 if phase and all(with_flips(here, lot) in let for lot in lots(phase))]
     return [row for row, here in rows if layout.means[here] == state]
+
+
+def clause_steps(clause, worth):
+    """The gifts that a clause of a line makes one behind another, each a dict; None for a need that is not met."""
+    word, *items = clause.split(" ")
+    one, last = items[0], items[-1]
+    if word == "put":
+        return [{one: int(last)}]
+    if word in ("add", "take"):
+        return [{one: worth[one] + (int(last) if word == "add" else -int(last))}]
+    if word == "move":
+        left = worth[one] - int(last)
+        return [{one: left}, {items[1]: (left if items[1] == one else worth[items[1]]) + int(last)}]
+    if word == "swap":
+        return [{one: worth[last], last: worth[one]}]
+    if word == "copy":
+        return [{last: worth[one]}]
+    return [{}] if worth[one] >= int(last) else [None]
+
+
+def line_worths(line, names, size, worths):
+    """The worths behind a line, clause by clause, by what each of its steps gives; None if it fails."""
+    worth = dict(zip(names, worths))
+    for clause in line.split(" , "):
+        for gifts in clause_steps(clause, worth):
+            if gifts is None or [value for value in gifts.values() if value < 0 or value.bit_length() > size]:
+                return None
+            worth.update(gifts)
+    return tuple(worth[name] for name in names)
+
+
+def any_line(die, names, size, clauses=None):
+    """Some line about some names; many of its numbers fit."""
+    told = []
+    for _ in range(die.randrange(1, 4) if clauses is None else clauses):
+        word = die.choice(("put", "add", "take", "move", "swap", "copy", "need"))
+        items = [die.choice(names) for _ in range(2 if word in ("move", "swap", "copy") else 1)]
+        if word not in ("swap", "copy"):
+            most = 2 ** size if word == "put" else max(2, 2 ** size // 3)
+            items.append(str(die.choice((0, 1, die.randrange(most), die.randrange(most)))))
+        told.append(" ".join([word] + items))
+    return " , ".join(told)

@@ -5,7 +5,7 @@ import os
 import unittest
 
 from oneflip import errors
-from tests.tools import Case
+from tests.tools import Case, error_of
 
 FILE = os.path.join(os.path.dirname(__file__), "examples.txt")
 
@@ -36,13 +36,16 @@ class Examples(Case):
                 told += 1
                 with self.subTest(file=file, code=code):
                     self._holds(code, wanted, names)
-        self.assertEqual(told, 101)
+        self.assertEqual(told, 160)
 
     def _holds(self, code, wanted, names):
         if wanted is None:
             exec(code, names)
-        elif wanted.startswith("raises "):
+        elif wanted.startswith("raises ") and wanted.endswith(")"):
             self.fails(eval(wanted[len("raises "):], vars(errors)), eval, code, names)
+        elif wanted.startswith("raises "):
+            # The example tells no fields: they are told in the tests of the module.
+            self.assertIs(type(error_of(eval, code, names)), vars(errors)[wanted[len("raises "):]])
         else:
             self.same(eval(code, names), eval(wanted, {}))
 

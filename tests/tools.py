@@ -43,15 +43,18 @@ def is_same(value, wanted):
         return False
     if isinstance(wanted, (list, tuple)):
         return len(value) == len(wanted) and all(is_same(one, other) for one, other in zip(value, wanted))
+    if isinstance(wanted, FlipError):
+        return is_same(sorted(vars(value).items()), sorted(vars(wanted).items()))
     return value == wanted
 
 
 def shown(value):
-    """What a value looks like, unless it has too many digits to be shown."""
+    """What a value looks like, unless it is too long to be shown."""
     try:
-        return repr(value)
+        told = repr(value)
     except ValueError:
         return f"a long {type(value).__name__}"
+    return told if len(told) < 2000 else told[:2000] + " .."
 
 
 def error_of(call, *told, **named):
@@ -88,7 +91,7 @@ class Case(unittest.TestCase):
     def fails(self, wanted, call, *told, **named):
         """The call raises an error of just the class of the wanted one, with just its fields."""
         error = error_of(call, *told, **named)
-        if type(error) is not type(wanted) or not is_same(sorted(vars(error).items()), sorted(vars(wanted).items())):
+        if not is_same(error, wanted):
             self.fail(f"{shown(error)} instead of {shown(wanted)} for {shown(told)} {shown(named)}")
 
     def in_short(self, seconds=5):
