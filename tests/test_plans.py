@@ -89,13 +89,13 @@ class Judged(Case):
     def test_small_layouts(self):
         die = dice(152)
         seen = {"safe": 0, "torn": 0, "short": 0}
-        for layout, machine, word, state in some_changes(152, 250):
+        for layout, machine, word, state in some_changes(152, 100):
             for _ in range(6):
                 phases = any_phases(die, layout.bits, 5)
                 self.judge(layout, machine, word, phases, state, seen)
             for phases in plans_by_trying(layout, let_by_trying(layout, machine, word, state), word, state, 1):
                 self.judge(layout, machine, word, [list(phase)[::-1] for phase in phases], state, seen)
-        self.assertGreater(min(seen.values()), 100)
+        self.assertGreater(min(seen.values()), 50)
 
     def judge(self, layout, machine, word, phases, state, seen):
         told = judged_plan(layout=layout, machine=machine, word=word, phases=phases, state=state)
