@@ -1,7 +1,7 @@
 """Cards, which tell machines by names, and are written in lines."""
 
 from oneflip.checks import is_list
-from oneflip.errors import BadLine, BadMachine, BadText, FlipError, Misfit, Twice
+from oneflip.errors import BadLine, BadMachine, BadText, Misfit, NoName, Twice
 from oneflip.fits import fitted
 from oneflip.machines import Machine
 from oneflip.names import is_name, name_at, need_name_of, need_names, need_unlike
@@ -45,21 +45,31 @@ class Card:
         """The Card whose lines these are."""
         if not is_list(lines) or len(lines) == 0 or not all([isinstance(told, str) for told in lines]):
             raise BadText(0, 0)
-        names = []
+        names = _told_by(lines, 0, (), ())
         changes = []
-        for number, told in enumerate(lines):
-            try:
-                if number == 0:
-                    names = _names_of(told)
-                else:
-                    changes.append(_change_of(told, names, changes))
-            except FlipError as error:
-                raise BadLine(number, error)
+        for number in range(1, len(lines)):
+            changes.append(_told_by(lines, number, names, changes))
         return Card(names, changes)
 
 
 def _is_change(value):
     return is_list(value) and len(value) == 2 and all([is_name(name) for name in value])
+
+
+def _told_by(lines, number, names, ahead):
+    """The names that the first line tells, or the change that another one tells; raises BadLine for a wrong line."""
+    try:
+        if number == 0:
+            return _names_of(lines[0])
+        return _change_of(lines[number], names, ahead)
+    except BadText as wrong:
+        raise BadLine(number, BadText(0, wrong.item))
+    except Twice as double:
+        raise BadLine(number, Twice(double.value))
+    except NoName as no_name:
+        raise BadLine(number, NoName(no_name.value))
+    except Misfit as misfit:
+        raise BadLine(number, Misfit(misfit.part))
 
 
 def _names_of(told):

@@ -1,7 +1,7 @@
 """Scripts: what is done with a Life, step by step, their texts, and what comes of them."""
 
 from oneflip.checks import MOST_BIT, is_list, is_lot, is_within
-from oneflip.errors import BadDeed, BadLine, BadPaper, BadText, FlipError, Misfit
+from oneflip.errors import BadBits, BadDeed, BadLine, BadNumber, BadPaper, BadText, Misfit
 from oneflip.lives import Life
 from oneflip.papers import Paper
 from oneflip.stores import MOST_ROWS
@@ -57,10 +57,7 @@ def played(store, values, script):
     _need_script(script)
     rows = []
     for number, step in enumerate(script):
-        try:
-            came = _play(life, step)
-        except FlipError as error:
-            raise BadLine(number, error)
+        came = _play_step(life, number, step)
         rows.append((came, life.values_now))
     return Story(rows, life.word_now, life.flips, life.cuts)
 
@@ -174,6 +171,18 @@ def _gift_at(items, at, ahead):
     if cell in [there for there, _ in ahead]:
         raise BadText(0, at)
     return cell, integer_at(items, at + 1, 0, None)
+
+
+def _play_step(life, number, step):
+    """Plays the step of a number; raises BadLine with the error that the Life raises."""
+    try:
+        return _play(life, step)
+    except BadDeed as no_deed:
+        raise BadLine(number, BadDeed(no_deed.part))
+    except BadNumber as no_number:
+        raise BadLine(number, BadNumber(no_number.part))
+    except BadBits as no_lot:
+        raise BadLine(number, BadBits(no_lot.part))
 
 
 def _play(life, step):
